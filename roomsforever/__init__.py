@@ -1,0 +1,1 @@
+"""Rooms for ever: rooms that are booked once, some times, or for ever."""
