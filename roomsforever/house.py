@@ -51,14 +51,40 @@ class House:
             return None
         return booking
 
+    def booked_in(self, room):
+        return [booking for booking in self.held.values() if booking.room == room and not booking.waits]
+
+    def waiting(self):
+        """The numbers of those who wait, in the order in which they came."""
+        return [booking.number for booking in self.held.values() if booking.waits]
+
+    def who_has(self, room, moment):
+        """What is booked and has the room at this moment, or None."""
+        for booking in self.booked_in(room):
+            if booking.plan.has_moment(moment):
+                return booking
+        return None
+
+    def next_time(self, room, moment):
+        """The first moment from this one on at which a time begins there, with what is booked then; or None."""
+        found = []
+        for booking in self.booked_in(room):
+            begin = booking.plan.next_beginning(moment)
+            if begin is not None:
+                found.append((begin, booking.number))
+        return min(found, default=None)
+
+    def minutes_used(self, room, moment, until):
+        # No two that are booked in a room have a minute in common, so none is counted twice.
+        return sum([booking.plan.minutes_had(moment, until) for booking in self.booked_in(room)])
+
     def meetings(self, room, plan):
         """The first moment at which the plan meets each that is booked there, with that one's number."""
         found = []
-        for booking in self.held.values():
-            if booking.room == room and not booking.waits:
-                moment = first_meeting(plan, booking.plan)
-                if moment is not None:
-                    found.append((moment, booking.number))
+        for booking in self.booked_in(room):
+            moment = first_meeting(plan, booking.plan)
+            if moment is not None:
+                found.append((moment, booking.number))
         return found
 
     def fits(self, room, plan):

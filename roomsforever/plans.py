@@ -33,6 +33,38 @@ class Plan:
         # A plan that doesn't come again has its time 0 alone, so any step above 0 is right for it.
         return max(self.days, 1)
 
+    def latest_time(self, moment):
+        """Which time begins last up to this moment, were there times without end; below 0 ahead of the first."""
+        return (moment - self.first) // (self.step() * DAY)
+
+    def has_moment(self, moment):
+        which = self.latest_time(moment)
+        if which < 0 or not self.has_time(which) or self.has_given_up(which):
+            return False
+        return moment - self.beginning(which) < self.length
+
+    def next_beginning(self, moment):
+        """The first moment from this one on at which a time begins that hasn't been given up, or None."""
+        which = max(0, self.latest_time(moment - 1) + 1)
+        while self.has_given_up(which):
+            which += 1
+        if not self.has_time(which):
+            return None
+        return self.beginning(which)
+
+    def minutes_had(self, moment, until):
+        """How many of the minutes from moment on, up to until, without that, the plan has."""
+        # None is longer than a day, so no time ahead of the latest one reaches up to the moment.
+        which = max(0, self.latest_time(moment))
+        had = 0
+        while self.has_time(which) and self.beginning(which) < until:
+            if not self.has_given_up(which):
+                begin = max(self.beginning(which), moment)
+                behind = min(self.beginning(which) + self.length, until)
+                had += max(0, behind - begin)
+            which += 1
+        return had
+
 
 def is_plan(first, length, days, times):
     if first > MOST_FIRST or length < 1 or length > MOST_LENGTH or days > MOST_DAYS:

@@ -1,18 +1,20 @@
 """The calls on a house of rooms, read from one list of whole numbers and answered in another."""
 
 from roomsforever.house import House
-from roomsforever.plans import plan_of
+from roomsforever.plans import MOST_TIMES, plan_of
 
 MOST_SEATS = 500
 MOST_WHOM = 99
 MOST_WHICH = 9999
 MOST_GIVEN_UP = 5
+MOST_STRETCH = 200000
 
 NOT_AS_TOLD = -1
 NO_SUCH_TIME = -2
 NO_ROOM = -3
 NOT_HELD = -4
 TOO_MANY = -5
+NONE_TO_COME = -6
 NO_FIT = -7
 
 
@@ -109,7 +111,82 @@ def answer_skip(house, numbers):
     return answer_served(house)
 
 
-# Each call stands at its number: how many numbers it takes, and what answers it. Those from 7 on follow here.
+def answer_cut(house, numbers):
+    many = numbers[1]
+    booking = house.find_booked(numbers[0])
+    if booking is None:
+        return [NOT_HELD]
+    plan = booking.plan
+    if plan.days == 0 or many < 1 or many > MOST_TIMES:
+        return [NO_SUCH_TIME]
+    # Times are counted from 0: it is more than so many now if it has the time of that number.
+    if not plan.has_time(many):
+        return [NO_SUCH_TIME]
+    plan.times = many
+    return answer_served(house)
+
+
+def answer_at(house, numbers):
+    room = numbers[0]
+    if not house.has_room(room):
+        return [NO_ROOM]
+    booking = house.who_has(room, numbers[1])
+    if booking is None:
+        return [0]
+    return [1, booking.number, booking.whom]
+
+
+def answer_next(house, numbers):
+    room = numbers[0]
+    if not house.has_room(room):
+        return [NO_ROOM]
+    coming = house.next_time(room, numbers[1])
+    if coming is None:
+        return [NONE_TO_COME]
+    return [coming[0], coming[1]]
+
+
+def answer_free(house, numbers):
+    room = numbers[0]
+    moment = numbers[1]
+    if not house.has_room(room):
+        return [NO_ROOM]
+    # Asked first: a room that's had now isn't free for ever, also if no other time begins there.
+    if house.who_has(room, moment) is not None:
+        return [0]
+    coming = house.next_time(room, moment)
+    if coming is None:
+        return [NONE_TO_COME]
+    return [coming[0] - moment]
+
+
+def answer_used(house, numbers):
+    room = numbers[0]
+    moment = numbers[1]
+    until = numbers[2]
+    if not house.has_room(room):
+        return [NO_ROOM]
+    if until < moment or until - moment > MOST_STRETCH:
+        return [NOT_AS_TOLD]
+    return [house.minutes_used(room, moment, until)]
+
+
+def answer_tell(house, numbers):
+    booking = house.held.get(numbers[0])
+    if booking is None:
+        return [NOT_HELD]
+    plan = booking.plan
+    booked = 0 if booking.waits else 1
+    when = [plan.first, plan.length, plan.days, plan.times]
+    return [booked, booking.whom, booking.room] + when + [len(plan.given_up)] + plan.given_up
+
+
+def answer_queue(house, numbers):
+    waiting = house.waiting()
+    return [len(waiting)] + waiting
+
+
+# Each call stands at its number: how many numbers it takes, and what answers it.
 CALLS = (
     (1, answer_room),
     (6, answer_book),
@@ -118,6 +195,13 @@ CALLS = (
     (6, answer_wait),
     (1, answer_end),
     (2, answer_skip),
+    (2, answer_cut),
+    (2, answer_at),
+    (2, answer_next),
+    (2, answer_free),
+    (3, answer_used),
+    (1, answer_tell),
+    (0, answer_queue),
 )
 
 

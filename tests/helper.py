@@ -6,9 +6,22 @@ DAY = 1440
 MOST_CALLS = 60
 MOST_NUMBERS = 420
 
+# The last moment that is ever asked of.
+FAR = 4000000
+
 # An hour each week for ever, and all of each day for ever.
 PLAIN = (0, 60, 7, 0)
 EVER = (0, 1440, 1, 0)
+
+
+class Watched(list):
+    """A list that doesn't allow to be changed."""
+
+    def refuse(self, *numbers, **names):
+        raise AssertionError("what was handed in is changed")
+
+    append = extend = insert = pop = remove = clear = sort = reverse = refuse
+    __setitem__ = __delitem__ = __iadd__ = __imul__ = refuse
 
 
 def room(seats):
@@ -37,6 +50,34 @@ def end(booked):
 
 def skip(booked, which):
     return [6, booked, which]
+
+
+def cut(booked, many):
+    return [7, booked, many]
+
+
+def at(number, moment):
+    return [8, number, moment]
+
+
+def next_time(number, moment):
+    return [9, number, moment]
+
+
+def free(number, moment):
+    return [10, number, moment]
+
+
+def used(number, moment, until):
+    return [11, number, moment, until]
+
+
+def tell(booked):
+    return [12, booked]
+
+
+def queue():
+    return [13]
 
 
 def once(first, length):
